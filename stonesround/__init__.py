@@ -1,0 +1,1 @@
+"""Stones on places with one-way roads, pushed by two in turn."""
