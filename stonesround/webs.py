@@ -57,19 +57,22 @@ def check_stones(web, stones):
             raise BadStones("a stone stands on a place of the web")
 
 
-def check_push(web, stones, stone, place):
-    """Raise BadPush if this stone can't be pushed to this place."""
-    if not is_counted(stone, len(stones)):
-        raise BadPush("there is no such stone")
-    if not is_counted(place, len(web)) or place not in web[stones[stone]]:
-        raise BadPush("no road of the stone's place leads there")
+def is_push(web, stones, stone, place):
+    """Whether there is such a stone and a road of its place leads there."""
+    return is_counted(stone, len(stones)) and is_counted(place, len(web)) and place in web[stones[stone]]
+
+
+def moved(stones, stone, place):
+    """The stones behind what is known to be a push, as a new list."""
+    behind = list(stones)
+    behind[stone] = place
+    return behind
 
 
 def pushed(web, stones, stone, place):
     """The stones behind a push of one stone to a place, as a new list."""
     check_web(web)
     check_stones(web, stones)
-    check_push(web, stones, stone, place)
-    behind = list(stones)
-    behind[stone] = place
-    return behind
+    if not is_push(web, stones, stone, place):
+        raise BadPush("there is no such stone, or no road of its place leads there")
+    return moved(stones, stone, place)

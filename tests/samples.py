@@ -1,6 +1,7 @@
 """Webs, stones and wrong values that several tests share."""
 
 import copy
+import itertools
 import random
 
 from stonesround import errors
@@ -85,6 +86,11 @@ def onward(many):
     return [list(range(place + 1, many)) for place in range(many)]
 
 
+def backward(many):
+    """Each place leads to all places before it, so that its worth is its own count."""
+    return [list(range(place)) for place in range(many)]
+
+
 def full(many):
     return [list(range(many)) for place in range(many)]
 
@@ -104,10 +110,47 @@ def edge_webs():
     """The webs at the edges that the document names."""
     webs = [[[]], [[0]], [[] for place in range(2)], [[] for place in range(60)]]
     webs += [[[place] for place in range(many)] for many in (1, 2, 60)]
-    webs += [shape(many) for shape in (ring, line, onward, full) for many in (1, 2, 3, 4, 5, 59, 60)]
+    webs += [shape(many) for shape in (ring, line, onward, backward, full) for many in (1, 2, 3, 4, 5, 59, 60)]
     # A ring with one way out of it, and a line that leads into a ring.
     webs += [[[1], [2], [0, 3], []], [[1], [2], [3], [2]], [[1, 2], [0], []], [[0, 1], [0, 1], []]]
     webs += [mixed_web(seed, many, most) for seed in range(12) for many in (7, 31, 60) for most in (1, 2, 3, 5, 40)]
+    return webs
+
+
+def behind(stones, stone, place):
+    return stones[:stone] + [place] + stones[stone + 1:]
+
+
+def settings(web, many):
+    """All lists of many stones on the web."""
+    return [list(stones) for stones in itertools.product(range(len(web)), repeat=many)]
+
+
+def settled(web, many):
+    """What all settings of many stones come to, by going through all pushes of all stones together."""
+    nexts = {
+        tuple(stones): [
+            tuple(behind(stones, stone, to)) for stone, place in enumerate(stones) for to in web[place]
+        ]
+        for stones in settings(web, many)
+    }
+    known = {}
+    found = True
+    while found:
+        found = False
+        for stones in nexts:
+            told = [known.get(each) for each in nexts[stones]]
+            if stones not in known and ("lost" in told or set(told) <= {"won"}):
+                known[stones] = "won" if "lost" in told else "lost"
+                found = True
+    return {stones: known.get(stones, "endless") for stones in nexts}
+
+
+def small_webs():
+    """All webs of up to 2 places, and some of 3 to 5."""
+    webs = [web_of(number, many) for many in (1, 2) for number in range(1 << many * many)]
+    webs += [web_of(number, 3) for number in range(0, 1 << 9, 5)]
+    webs += [mixed_web(seed, many, most) for seed in range(8) for many in (4, 5) for most in (2, 3)]
     return webs
 
 

@@ -55,6 +55,20 @@ def names_bound(tree):
             yield node.name
 
 
+def names_defined(tree):
+    """All names that the file itself gives to something at module level."""
+    for node in tree.body:
+        if isinstance(node, (ast.FunctionDef, ast.ClassDef)):
+            yield node.name
+        elif isinstance(node, ast.Assign):
+            yield from (target.id for target in node.targets)
+
+
+def imported(tree):
+    """The files of the package that the file imports from."""
+    return [node.module.split(".")[1] for node in ast.walk(tree) if isinstance(node, ast.ImportFrom)]
+
+
 class Files(unittest.TestCase):
     def test_the_package_holds_only_plain_files(self):
         self.assertIn("__init__.py", [path.name for path in files()])
@@ -94,7 +108,7 @@ class Code(unittest.TestCase):
                     self.assertLessEqual(node.end_lineno - node.lineno + 1, 40, (path.name, node.name))
 
     def test_imports_name_the_file_of_the_package_that_defines_the_name(self):
-        defined = {path.stem: [node.name for node in tree.body if hasattr(node, "name")] for path, tree in trees()}
+        defined = {path.stem: list(names_defined(tree)) for path, tree in trees()}
         for path, tree in trees():
             for node in ast.walk(tree):
                 if isinstance(node, ast.ImportFrom):
@@ -104,6 +118,31 @@ class Code(unittest.TestCase):
                     self.assertEqual(package, "stonesround")
                     for alias in node.names:
                         self.assertIn(alias.name, defined[stem], path.name)
+
+    def test_no_two_files_import_from_each_other(self):
+        left = {path.stem: imported(tree) for path, tree in trees()}
+        self.assertEqual(left["__init__"], [])
+        while left:
+            free = [stem for stem in left if not set(left[stem]) & set(left)]
+            self.assertTrue(free, left)
+            left = {stem: left[stem] for stem in left if stem not in free}
+
+    def test_names_at_module_level_are_bound_once(self):
+        for path, tree in trees():
+            names = list(names_defined(tree))
+            names += [alias.asname or alias.name for node in tree.body if isinstance(node, ast.ImportFrom)
+                      for alias in node.names]
+            self.assertEqual(len(names), len(set(names)), path.name)
+
+    def test_no_local_name_is_that_of_a_class_or_an_import(self):
+        for path, tree in trees():
+            outer = [node.name for node in tree.body if isinstance(node, ast.ClassDef)]
+            outer += [alias.asname or alias.name for node in tree.body if isinstance(node, ast.ImportFrom)
+                      for alias in node.names]
+            for function in ast.walk(tree):
+                if isinstance(function, ast.FunctionDef):
+                    inner = [name for part in function.body + [function.args] for name in names_bound(part)]
+                    self.assertFalse(set(inner) & set(outer), (path.name, function.name))
 
     def test_module_level(self):
         for path, tree in trees():
