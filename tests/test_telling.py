@@ -63,12 +63,13 @@ class AgainstAllSettings(unittest.TestCase, ToldChecks):
     def test_all_webs_of_up_to_3_places(self):
         for many in (1, 2, 3):
             for number in range(1 << many * many):
-                for stones in (0, 1, 2):
+                for stones in (0, 1, 2, 3):
                     self.check(samples.web_of(number, many), stones)
 
-    def test_three_stones(self):
-        for web in samples.small_webs():
-            self.check(web, 3)
+    def test_three_stones_on_more_places(self):
+        for seed in range(8):
+            for many, most in ((4, 2), (4, 3), (5, 2), (5, 3)):
+                self.check(samples.mixed_web(seed, many, most), 3)
 
     def test_four_stones(self):
         for number in range(0, 1 << 9, 23):
